@@ -6,7 +6,6 @@ import (
 
 	"hustings/api"
 	"hustings/hustings"
-	"hustings/slots"
 )
 
 // script makes calls out of bytes.
@@ -43,73 +42,89 @@ func (s *script) number() int {
 	}
 }
 
-type call struct{ kind, number int }
+// The calls that may change something.
+const (
+	delivers = iota
+	drops
+	copies
+	ticks
+	crashes
+	restarts
+	arms
+	hears
+	kinds // how many there are
+)
+
+type call struct{ kind, number, bytes int }
 
 func (s *script) calls() []call {
 	var l []call
 	for len(s.bytes) > 0 {
-		l = append(l, call{s.next() % 6, s.number()})
+		c := call{kind: s.next() % kinds, number: s.number()}
+		if c.kind == arms {
+			c.bytes = s.number()
+		}
+		l = append(l, c)
 	}
 	return l
 }
 
 func (c call) on(town *hustings.Town) api.Errno {
 	switch c.kind {
-	case 0:
+	case delivers:
 		return town.Deliver(c.number)
-	case 1:
+	case drops:
 		return town.Drop(c.number)
-	case 2:
+	case copies:
 		return town.Copy(c.number)
-	case 3:
+	case ticks:
 		return town.Tick(c.number)
-	case 4:
+	case crashes:
 		return town.Crash(c.number)
-	default:
+	case restarts:
 		return town.Restart(c.number)
+	case arms:
+		return town.Arm(c.number, c.bytes)
+	default:
+		return town.Hear(c.number)
 	}
 }
 
-// wanted is what the call should answer, by what is to be seen ahead of it.
-func (c call) wanted(s sight, net int) api.Errno {
-	there := c.number >= 0 && c.number < len(s.states)
+// wanted is what the call should answer, by what is to be seen ahead of it, and who is established.
+func (c call) wanted(s sight, net int, established []bool) api.Errno {
+	switch c.kind {
+	case delivers, drops, copies:
+		if c.number < 0 || c.number >= len(s.messages) {
+			return api.ErrRange
+		}
+		if c.kind == copies && len(s.messages) == net {
+			return api.ErrFull
+		}
+		return api.OK
+	case ticks:
+		if c.number < 1 || c.number > api.MaxTicks {
+			return api.ErrArg
+		}
+		return api.OK
+	}
 	switch {
-	case c.kind <= 2 && (c.number < 0 || c.number >= len(s.messages)):
-		return api.ErrRange
-	case c.kind == 2 && len(s.messages) == net:
-		return api.ErrFull
-	case c.kind == 3 && (c.number < 1 || c.number > api.MaxTicks), c.kind >= 4 && !there:
+	case c.number < 0 || c.number >= len(s.states), c.kind == arms && (c.bytes < 0 || c.bytes > 28):
 		return api.ErrArg
-	case c.kind == 4 && s.states[c.number] == down, c.kind == 5 && s.states[c.number] != down:
+	case (s.states[c.number] == down) != (c.kind == restarts):
 		return api.ErrDown
+	case c.kind == hears && !established[c.number]:
+		return api.ErrState
+	case c.kind == hears && newest(s.disks[c.number]).News == api.MaxNews:
+		return api.ErrFull
 	}
 	return api.OK
-}
-
-// sound checks what holds of every town, whatever was done to it.
-func sound(t *testing.T, before, after sight, net int) {
-	t.Helper()
-	if len(after.messages) > net {
-		t.Fatalf("%d messages are on their way, of %d", len(after.messages), net)
-	}
-	for _, m := range after.messages {
-		if m.From == m.To || m.From >= len(after.states) || m.To >= len(after.states) || m.From < 0 || m.To < 0 {
-			t.Fatalf("on its way: %+v", m)
-		}
-	}
-	for peer, d := range after.disks {
-		was, _, _ := slots.Newest(before.disks[peer])
-		is, _, at := slots.Newest(d)
-		if at < 0 || is.Promised < was.Promised || is.Epoch < was.Epoch {
-			t.Fatalf("the disk of %d was %+v, is %+v", peer, was, is)
-		}
-	}
 }
 
 // FuzzCalls: any calls end and answer what they should; a refused one changes nothing; and a town does the same again, whatever another one does in between.
 func FuzzCalls(f *testing.F) {
 	f.Add([]byte{})
 	f.Add([]byte{2, 4, 100, 2, 0, 0, 0, 1, 0, 0, 0, 2, 0, 0, 0, 3, 0, 4, 0, 4, 0, 4, 0, 4, 3, 12, 3, 40, 4, 4, 5, 4, 255, 255, 254, 254})
+	f.Add([]byte{0, 0, 100, 0, 0, 0, 0, 1, 3, 6, 7, 4, 6, 4, 20, 7, 4, 7, 4, 5, 4, 6, 4, 2, 6, 4, 62, 6, 4, 60, 3, 8, 5, 4, 3, 8, 7, 4}) // one peer
 	f.Add([]byte{0, 0, 3, 6, 1, 2, 3, 4, 5, 6, 7, 8, 9, 1, 2, 3, 4, 5, 6, 7, 8, 9, 0, 1, 2, 3, 4, 5, 6, 7, 8, 9, 2, 8, 2, 9, 0, 6, 3, 10, 3, 200})
 	for seed := range 40 {
 		var l []byte
@@ -125,17 +140,18 @@ func FuzzCalls(f *testing.F) {
 		c := s.config()
 		calls := s.calls()
 		one, two, other := newTown(t, c), newTown(t, c), newTown(t, newsOf(3, 2, 1))
+		w := watching(one, c.Net)
 		for _, call := range calls {
 			before := see(one)
 			got := call.on(one)
-			if want := call.wanted(before, c.Net); got != want {
+			if want := call.wanted(before, c.Net, w.established); got != want {
 				t.Fatalf("%+v = %d, want %d", call, got, want)
 			}
 			after := see(one)
 			if got != api.OK && !before.same(after) {
 				t.Fatalf("%+v was refused, and changed\n%+v to\n%+v", call, before, after)
 			}
-			sound(t, before, after, c.Net)
+			w.see(t, call, after)
 			call.on(other)
 			other.Tick(1)
 			if again := call.on(two); again != got || !after.same(see(two)) {
@@ -160,7 +176,10 @@ func TestTwoTownsInTurns(t *testing.T) {
 		two.Crash(1)
 		two.Tick(2)
 		two.Restart(1)
+		two.Arm(2, 5)
+		two.Hear(2)
 		clear(two.Messages())
+		clear(two.Events())
 		if a, b := see(alone), see(one); !a.same(b) {
 			t.Fatalf("alone:\n%+v\nin turns:\n%+v", a, b)
 		}

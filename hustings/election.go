@@ -69,22 +69,20 @@ func (p *peer) count() {
 	}
 }
 
-// get does nothing with what its state does not name.
-func (p *peer) get(m api.Message) {
-	if m.Kind != api.Notice {
-		return
+func (p *peer) getLooking(m api.Message) {
+	switch {
+	case m.Kind != api.Notice:
+	case m.State == api.Looking:
+		p.compare(m)
+	default:
+		p.keep(m)
 	}
-	switch p.state {
-	case api.Looking:
-		if m.State == api.Looking {
-			p.compare(m)
-		} else {
-			p.keep(m)
-		}
-	case api.Following, api.Leading:
-		if m.State == api.Looking {
-			p.tell(m.From)
-		}
+}
+
+// answerNotice is for one that is settled: only who looks needs to know of it.
+func (p *peer) answerNotice(m api.Message) {
+	if m.State == api.Looking {
+		p.tell(m.From)
 	}
 }
 

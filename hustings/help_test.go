@@ -49,6 +49,22 @@ func join(from, to, promised int) api.Message {
 	return api.Message{Kind: api.Join, From: from, To: to, Epoch: promised}
 }
 
+func propose(from, to, epoch int) api.Message {
+	return api.Message{Kind: api.Propose, From: from, To: to, Epoch: epoch}
+}
+
+func ack(from, to, epoch int, its api.Vote) api.Message {
+	return api.Message{Kind: api.Ack, From: from, To: to, Epoch: epoch, Vote: its}
+}
+
+func welcome(from, to, epoch, news int) api.Message {
+	return api.Message{Kind: api.Welcome, From: from, To: to, Epoch: epoch, News: news}
+}
+
+func ping(from, to int) api.Message { return api.Message{Kind: api.Ping, From: from, To: to} }
+
+func pong(from, to int) api.Message { return api.Message{Kind: api.Pong, From: from, To: to} }
+
 func onItsWay(t testing.TB, what string, town *hustings.Town, want ...api.Message) {
 	t.Helper()
 	got := town.Messages()
@@ -112,6 +128,40 @@ func elected(t testing.TB, c api.Config) *hustings.Town {
 	ok(t, "Tick(Wait)", town.Tick(c.Wait))
 	dropAll(t, town)
 	return town
+}
+
+// established is a town in which all is delivered that comes of an election.
+func established(t testing.TB, c api.Config) *hustings.Town {
+	t.Helper()
+	town := newTown(t, c)
+	deliverAll(t, town)
+	ok(t, "Tick(Wait)", town.Tick(c.Wait))
+	deliverAll(t, town)
+	return town
+}
+
+func events(t testing.TB, what string, town *hustings.Town, want ...api.Event) {
+	t.Helper()
+	got := town.Events()
+	if (len(got) > 0 || len(want) > 0) && !reflect.DeepEqual(got, want) {
+		t.Fatalf("%s: Events = %+v, want %+v", what, got, want)
+	}
+}
+
+// keeps checks the newest right slot of a peer's disk.
+func keeps(t testing.TB, what string, town *hustings.Town, peer, number int, want api.Credential) {
+	t.Helper()
+	d, err := town.Disk(peer)
+	c, n, _ := slots.Newest(d)
+	if c != want || n != number || err != api.OK {
+		t.Fatalf("%s: %d keeps %+v, number %d, %d, want %+v, number %d", what, peer, c, n, err, want, number)
+	}
+}
+
+// newest is what the newest right slot of a disk says.
+func newest(disk string) api.Credential {
+	c, _, _ := slots.Newest(disk)
+	return c
 }
 
 // slot is a slot as it should be.

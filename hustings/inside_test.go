@@ -1,35 +1,62 @@
 package hustings
 
-// Tests from inside: they lay messages on their way that no peer has sent, or let a peer know what no call lets it know yet.
+// Tests from inside: they lay messages on their way that no peer has sent, or let a peer follow or lead that nobody has chosen.
 
 import (
 	"reflect"
 	"testing"
 
 	"hustings/api"
+	"hustings/slots"
 )
 
 // town has so many peers, of which each has heard 10 more than the one ahead of it. Nothing is on its way.
 func town(t *testing.T, peers int) *Town {
 	t.Helper()
-	c := api.Config{Wait: 3, Lease: 8, Net: 100}
+	var l []api.Credential
 	for peer := range peers {
-		c.Peers = append(c.Peers, api.Credential{News: 10 * (peer + 1)})
+		l = append(l, api.Credential{News: 10 * (peer + 1)})
 	}
-	x, err := New(c)
+	return townOf(t, l...)
+}
+
+// townOf has peers with these credentials. Nothing is on its way.
+func townOf(t *testing.T, peers ...api.Credential) *Town {
+	t.Helper()
+	x, err := New(api.Config{Peers: peers, Wait: 3, Lease: 8, Net: 100})
 	if err != api.OK {
-		t.Fatalf("New(%+v): %d", c, err)
+		t.Fatalf("New(%+v): %d", peers, err)
 	}
 	x.way = nil
 	return x
 }
 
-// vote is the vote for a peer of such a town.
+// vote is the vote for a peer of a town that town made.
 func vote(peer int) api.Vote { return api.Vote{News: 10 * (peer + 1), Peer: peer} }
 
 func notice(from, to, round, state int, v api.Vote) api.Message {
 	return api.Message{Kind: api.Notice, From: from, To: to, Round: round, State: state, Vote: v}
 }
+
+func join(from, to, promised int) api.Message {
+	return api.Message{Kind: api.Join, From: from, To: to, Epoch: promised}
+}
+
+func propose(from, to, epoch int) api.Message {
+	return api.Message{Kind: api.Propose, From: from, To: to, Epoch: epoch}
+}
+
+func ack(from, to, epoch int, v api.Vote) api.Message {
+	return api.Message{Kind: api.Ack, From: from, To: to, Epoch: epoch, Vote: v}
+}
+
+func welcome(from, to, epoch, news int) api.Message {
+	return api.Message{Kind: api.Welcome, From: from, To: to, Epoch: epoch, News: news}
+}
+
+func ping(from, to int) api.Message { return api.Message{Kind: api.Ping, From: from, To: to} }
+
+func pong(from, to int) api.Message { return api.Message{Kind: api.Pong, From: from, To: to} }
 
 // toOthers are the Notices of one that is Looking to all others of so many.
 func toOthers(from, peers, round int, v api.Vote) []api.Message {
@@ -62,6 +89,23 @@ func inState(t *testing.T, what string, x *Town, peer, want int) {
 	t.Helper()
 	if got, err := x.State(peer); got != want || err != api.OK {
 		t.Fatalf("%s: State(%d) = %d, %d, want %d", what, peer, got, err, want)
+	}
+}
+
+// keeps checks the newest right slot of a peer's disk, and that the peer knows it.
+func keeps(t *testing.T, what string, x *Town, peer, number int, want api.Credential) {
+	t.Helper()
+	d, _ := x.Disk(peer)
+	c, n, _ := slots.Newest(d)
+	if c != want || n != number || x.peers[peer].credential != want {
+		t.Fatalf("%s: %d keeps %+v, number %d, and knows %+v, want %+v, number %d", what, peer, c, n, x.peers[peer].credential, want, number)
+	}
+}
+
+func happened(t *testing.T, what string, x *Town, want ...api.Event) {
+	t.Helper()
+	if got := x.Events(); (len(got) > 0 || len(want) > 0) && !reflect.DeepEqual(got, want) {
+		t.Fatalf("%s: Events = %+v, want %+v", what, got, want)
 	}
 }
 
@@ -130,6 +174,12 @@ func TestFailed(t *testing.T) {
 	if err := x.Restart(1); err != api.ErrDown {
 		t.Errorf("Restart of a Failed one = %d, want ErrDown", err)
 	}
+	if err := x.Hear(1); err != api.ErrState {
+		t.Errorf("Hear of a Failed one = %d, want ErrState", err)
+	}
+	if err := x.Arm(1, 5); err != api.OK {
+		t.Errorf("Arm of a Failed one = %d", err)
+	}
 	if err := x.Crash(1); err != api.OK {
 		t.Errorf("Crash of a Failed one = %d", err)
 	}
@@ -156,126 +206,4 @@ func TestNewestSlot(t *testing.T) {
 	x.peers[0].disk[2*api.SlotSize-1]++ // of number 4, in the second slot
 	x.Restart(0)
 	same(t, "the newest is not right", x.way, notice(0, 1, 1, api.Looking, api.Vote{Epoch: 3, News: 200}))
-}
-
-// leading is a town in which a peer leads, since now.
-func leading(t *testing.T, peers, lease, leader int) (*Town, *peer) {
-	t.Helper()
-	x := town(t, peers)
-	x.lease = lease
-	p := x.peers[leader]
-	p.lead()
-	return x, p
-}
-
-func TestPings(t *testing.T) {
-	for lease, every := range map[int]int{4: 1, 7: 1, 8: 2, 11: 2, 12: 3, 99: 24, 100: 25} {
-		x, p := leading(t, 5, lease, 2)
-		x.now, p.leadsFrom = 5, 5 // the pings hang on the time, not on when it began to lead
-		for range 5 * lease {
-			p.joined[4], p.joined[0] = 0, 0
-			p.heard[0], p.heard[4] = x.now, x.now
-			x.way = nil
-			x.Tick(1)
-			inState(t, "heard of", x, 2, api.Leading)
-			if x.now%every == 0 {
-				same(t, "Ping", x.way, api.Message{Kind: api.Ping, From: 2, To: 0}, api.Message{Kind: api.Ping, From: 2, To: 4})
-			} else {
-				same(t, "no Ping", x.way)
-			}
-		}
-	}
-}
-
-// TestHeardLately: a leader looks if it has not heard lately of most, and does not ping then.
-func TestHeardLately(t *testing.T) {
-	for _, c := range []struct {
-		peers int
-		ago   []int // of how many others it has heard, at its tick, and how long ago
-		leads bool
-	}{
-		{5, nil, false},
-		{5, []int{0}, false},
-		{5, []int{7, 7}, true},
-		{5, []int{7, 8}, false},
-		{5, []int{8, 8, 8, 8}, false},
-		{5, []int{8, 8, 7, 7}, true},
-		{4, []int{0}, false},
-		{4, []int{0, 7}, true},
-		{2, []int{7}, true},
-		{2, []int{8}, false},
-		{2, nil, false},
-	} {
-		x, p := leading(t, c.peers, 8, c.peers-1)
-		p.joined[0] = 0
-		for peer, ago := range c.ago {
-			p.heard[peer] = x.now + 8 - ago
-		}
-		x.Tick(7)
-		inState(t, "no Lease has gone by", x, p.number, api.Leading)
-		x.way = nil
-		x.Tick(1)
-		if c.leads {
-			inState(t, "heard of most", x, p.number, api.Leading)
-			same(t, "heard of most", x.way, api.Message{Kind: api.Ping, From: p.number, To: 0})
-		} else {
-			inState(t, "not heard of most", x, p.number, api.Looking)
-			same(t, "not heard of most", x.way, toOthers(p.number, c.peers, 2, vote(p.number))...)
-		}
-	}
-}
-
-func TestPropose(t *testing.T) {
-	x, p := leading(t, 5, 8, 2)
-	p.credential.Promised, p.credential.Epoch = 6, 5
-	p.joined[4], p.joined[1], p.joined[0] = 7, 9, 2
-	p.propose()
-	propose := func(to int) api.Message { return api.Message{Kind: api.Propose, From: 2, To: to, Epoch: 10} }
-	same(t, "Propose", x.way, propose(0), propose(1), propose(4))
-	if want := (api.Credential{Promised: 10, To: 2, Epoch: 5, News: 30}); p.credential != want || p.established {
-		t.Errorf("proposed: %+v, established: %v, want %+v", p.credential, p.established, want)
-	}
-	x.way = nil
-	p.acked[3], p.acked[0] = struct{}{}, struct{}{}
-	for range 2 {
-		p.check()
-		welcome := func(to int) api.Message { return api.Message{Kind: api.Welcome, From: 2, To: to, Epoch: 10, News: 30} }
-		same(t, "Welcome", x.way, welcome(0), welcome(3))
-		if want := (api.Credential{Promised: 10, To: 2, Epoch: 10, News: 30}); p.credential != want || !p.established {
-			t.Errorf("established: %+v, %v, want %+v", p.credential, p.established, want)
-		}
-	}
-}
-
-// TestLeadsAnew: of what it was when it led before, nothing is left.
-func TestLeadsAnew(t *testing.T) {
-	x, p := leading(t, 3, 8, 2)
-	p.joined[0], p.acked[0], p.heard[0] = 5, struct{}{}, 0
-	p.propose()
-	x.way = nil
-	x.Tick(8)
-	inState(t, "it has not heard of 0", x, 2, api.Looking)
-	p.lead()
-	if len(p.joined)+len(p.acked)+len(p.heard) != 0 || p.epoch != 0 || p.established || p.leadsFrom != 8 {
-		t.Errorf("it leads anew: %+v", p.session)
-	}
-}
-
-func TestProposeAboveAllEpochs(t *testing.T) {
-	for _, joined := range []int{999, 1000} {
-		x, p := leading(t, 3, 8, 2)
-		p.joined[0] = joined
-		before, _ := x.Disk(2)
-		p.propose()
-		after, _ := x.Disk(2)
-		if joined == 999 {
-			inState(t, "the last epoch", x, 2, api.Leading)
-			continue
-		}
-		inState(t, "no epoch is left", x, 2, api.Looking)
-		same(t, "no epoch is left", x.way, toOthers(2, 3, 2, vote(2))...)
-		if before != after {
-			t.Errorf("no epoch is left, but the disk is %x", after)
-		}
-	}
 }

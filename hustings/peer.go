@@ -6,11 +6,18 @@ import (
 )
 
 // order is what a town's owner wants of a peer.
-type order int
+type order struct {
+	kind  orderKind
+	bytes int // of arm
+}
+
+type orderKind int
 
 const (
-	comeUp order = iota
+	comeUp orderKind = iota
 	goDown
+	arm
+	hear
 )
 
 // peer is one of a town. What happens to it comes by one of its channels.
@@ -25,8 +32,10 @@ type peer struct {
 	mind
 }
 
-// mind is what a peer knows only as long as it is up.
+// mind is what a peer has only as long as it is up. That it is armed is kept here so that going down disarms it.
 type mind struct {
+	armed      bool
+	bytes      int // that an armed one lays of its next slot
 	credential api.Credential
 	state      int
 	round      int
@@ -76,11 +85,27 @@ func (p *peer) takeEvent() {
 }
 
 func (p *peer) obey(o order) {
-	switch o {
+	switch o.kind {
 	case comeUp:
 		p.comeUp()
 	case goDown:
-		p.up, p.mind = false, mind{}
+		p.goDown()
+	case arm:
+		p.armed, p.bytes = true, o.bytes
+	case hear:
+		p.hearNews()
+	}
+}
+
+// get does nothing with what its state does not name.
+func (p *peer) get(m api.Message) {
+	switch p.state {
+	case api.Looking:
+		p.getLooking(m)
+	case api.Following:
+		p.getFollowing(m)
+	case api.Leading:
+		p.getLeading(m)
 	}
 }
 
@@ -94,8 +119,10 @@ func (p *peer) comeUp() {
 	p.look()
 }
 
-// write lays the next slot, of which the disk itself tells the number: on an empty one it is the first.
-func (p *peer) write(c api.Credential) {
+func (p *peer) goDown() { p.up, p.mind = false, mind{} }
+
+// write lays the next slot, of which the disk itself tells the number: on an empty one it is the first. It answers whether the peer goes on: an armed one goes down, and then nothing behind the write may be done.
+func (p *peer) write(c api.Credential) bool {
 	_, newest, _ := slots.Newest(string(p.disk[:]))
 	number := newest + 1
 	at := 0
@@ -103,8 +130,16 @@ func (p *peer) write(c api.Credential) {
 		at = api.SlotSize
 	}
 	slot, _ := slots.Encode(number, c)
+	if p.armed {
+		slot = slot[:min(p.bytes, len(slot))]
+	}
 	copy(p.disk[at:], slot)
+	if p.armed {
+		p.goDown()
+		return false
+	}
 	p.credential = c
+	return true
 }
 
 // become forgets what only the state before needed.
